@@ -1,0 +1,1 @@
+"""Givesifgets: a house in which people give in rings, so that nobody gives in vain."""
