@@ -2,13 +2,24 @@
 
 import unittest
 
+from givesifgets.barriers import odd_parts, spare_number
+from givesifgets.bases import is_base, most_of, rivals
 from givesifgets.dockets import is_docket, renamed_docket
 from givesifgets.dockettexts import docket_text
+from givesifgets.kept import kept_lot, kept_plan, places
+from givesifgets.keptpapers import beginnings, is_kept_paper
+from givesifgets.lotbarriers import closed_parts, is_lot_paper
 from givesifgets.reading import completed, may_follow, read_docket
 from givesifgets.registry import registry_of, ties_of
+from givesifgets.search import even_way, grown_plan, is_even_way, largest_plan
+from givesifgets.servable import is_servable, taken_in
+from givesifgets.strands import ends, exchanged, growing_ways, strands
+from givesifgets.threeparts import plan_without, three_parts
 from givesifgets.tokens import token_places, tokens_of
 from givesifgets.turns import gain, turned
 from givesifgets.webs import arcs_of, neighbours, pair_web, renamed_web, without
+
+SEVEN = (7, ((0, 1), (0, 2), (1, 2), (2, 3), (3, 4), (3, 5), (5, 6)))
 
 
 class Examples(unittest.TestCase):
@@ -42,5 +53,40 @@ class Examples(unittest.TestCase):
         web = (6, ((0, 1), (1, 2), (2, 3), (3, 4), (4, 5)))
         one, other = ((1, 2), (3, 4)), ((0, 1), (2, 3), (4, 5))
         way = ("way", (0, 1, 2, 3, 4, 5))
+        self.assertEqual(strands(one, other), (way,))
+        self.assertEqual(growing_ways(one, other), strands(one, other))
         self.assertEqual(turned(web, one, way), other)
+        self.assertEqual(exchanged(one, ((0, 1), (3, 4)), 0), (((0, 1), (3, 4)), 2))
+        self.assertEqual(ends(one, ((0, 1), (3, 4))), ((0, 2),))
         self.assertEqual(gain(one, ("way", (2, 1))), -1)
+
+    def test_chapter_6(self):
+        plan = ((0, 1), (2, 3), (5, 6))
+        self.assertEqual(three_parts(SEVEN), ((0, 1, 2, 4), (3,), (5, 6)))
+        self.assertEqual(three_parts((3, ((0, 1), (1, 2)))), ((0, 2), (1,), ()))
+        self.assertEqual(len(largest_plan(SEVEN)), 3)
+        self.assertEqual(odd_parts(SEVEN, (3,)), ((0, 1, 2), (4,)))
+        self.assertEqual((spare_number(SEVEN, (3,)), spare_number(SEVEN, ())), (1, 1))
+        self.assertIsNone(grown_plan(SEVEN, plan))
+        self.assertIs(is_even_way(SEVEN, plan, (4, 3, 2)), True)
+        self.assertIsNone(even_way(SEVEN, plan, 6))
+        self.assertIsNone(plan_without(SEVEN, 6))
+
+    def test_chapter_7(self):
+        self.assertIs(is_servable(SEVEN, (0, 1, 2)), True)
+        self.assertIs(is_servable(SEVEN, (0, 1, 2, 4)), False)
+        self.assertEqual(closed_parts(SEVEN, (0, 1, 2, 4), (3,)), ((0, 1, 2), (4,)))
+        self.assertEqual(most_of(SEVEN, (0, 1, 2, 4)), 3)
+        self.assertEqual(rivals(SEVEN, (0, 1, 2, 3, 5, 6), 4), (0, 1, 2))
+        self.assertIn(taken_in(SEVEN, (4, 5), (0, 1, 2))[0], (0, 1, 2))
+        self.assertIs(is_base(SEVEN, (0, 1, 3, 4, 5, 6)), True)
+        self.assertIs(is_lot_paper(SEVEN, (0, 1, 2, 4), ("barred", (3,))), True)
+        self.assertIs(is_lot_paper(SEVEN, (0, 1), ("served", ((0, 1),))), True)
+
+    def test_chapter_8(self):
+        web, order = (5, ((0, 1), (1, 2), (2, 3), (3, 4))), (0, 2, 4, 1, 3)
+        self.assertEqual(kept_lot(web, order), (0, 1, 2, 3))
+        self.assertEqual(kept_plan(web, order), ((0, 1), (2, 3)))
+        self.assertEqual(beginnings(web, order), (0, 1, 2, 2, 3, 4))
+        self.assertIs(is_kept_paper(web, order, (((0, 1), (2, 3)), ((4, (1, 3)),))), True)
+        self.assertEqual(places(order, (1, 4)), (2, 3))

@@ -26,6 +26,20 @@ INTERFACE = {
               "serves": "plan, lot"},
     "turns": {"is_turn": "web, plan, value", "gain": "plan, turn", "turned": "web, plan, turn",
               "is_growing": "web, plan, value"},
+    "strands": {"strands": "one, other", "strand_at": "one, other, person", "ends": "one, other",
+                "growing_ways": "one, other", "exchanged": "one, other, person"},
+    "search": {"is_even_way": "web, plan, value", "even_way": "web, plan, person", "grown_plan": "web, plan",
+               "largest_plan": "web"},
+    "barriers": {"odd_parts": "web, lot", "spare_number": "web, lot", "best_paper": "web",
+                 "is_best_paper": "web, value"},
+    "threeparts": {"three_parts": "web", "plan_without": "web, person", "paired_rest": "web, person"},
+    "servable": {"serving_plan": "web, lot", "is_servable": "web, lot", "taken_in": "web, one, other"},
+    "lotbarriers": {"closed_parts": "web, lot, taken", "lot_paper": "web, lot", "is_lot_paper": "web, lot, value"},
+    "bases": {"most_of": "web, lot", "most_paper": "web, lot", "is_most_paper": "web, lot, value",
+              "is_base": "web, lot", "rivals": "web, base, person"},
+    "kept": {"kept_lot": "web, order", "kept_plan": "web, order", "places": "order, lot",
+             "is_earlier": "order, one, other"},
+    "keptpapers": {"kept_paper": "web, order", "is_kept_paper": "web, order, value", "beginnings": "web, order"},
 }
 
 GOOD = '"""A file."""\n\n\n'
