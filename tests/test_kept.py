@@ -19,7 +19,7 @@ def cases(seed):
         for web in all_webs(n):
             for order in itertools.permutations(range(n)):
                 yield web, order
-    for web in list(all_webs(4)) + list(all_webs(5))[::6] + SHAPES * 5 + list(drawn_webs(seed, 120, 6, 9)):
+    for web in list(all_webs(4)) + list(all_webs(5)) + SHAPES * 5 + list(drawn_webs(seed, 120, 6, 9)):
         for _ in range(3):
             yield web, drawn_order(rng, web[0])
 

@@ -18,16 +18,15 @@ from tests.test_search import SHAPES
 
 
 def webs_tried(seed, many=60):
-    for n in range(5):
+    for n in range(6):
         yield from all_webs(n)
-    yield from list(all_webs(5))[::9]
     yield from SHAPES
     yield from drawn_webs(seed, many, 6, 8)
 
 
 def some_lots(rng, n):
     lots = lots_of(n)
-    return lots if n < 5 else rng.sample(lots, 25) + [(), tuple(range(n))]
+    return lots if n < 6 else rng.sample(lots, 25) + [(), tuple(range(n))]
 
 
 class Servable(unittest.TestCase):
