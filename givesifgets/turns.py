@@ -7,7 +7,7 @@ from givesifgets.values import are_unlike_below, as_pair, is_tuple_of
 LEAST_PEOPLE = {"way": 2, "ring": 4}
 
 
-def _pairs_of(turn):
+def steps_of(turn):
     """The pairs of each one and the next, of a ring of the last one and the first, too."""
     word, people = turn
     pairs = [as_pair(people[at - 1], people[at]) for at in range(1, len(people))]
@@ -30,7 +30,7 @@ def is_turn(web, plan, value):
     if not _is_formed(n, value):
         return False
     word, people = value
-    steps = _pairs_of(value)
+    steps = steps_of(value)
     if not all([pair in pairs for pair in steps]):
         return False
     marks = [pair in plan for pair in steps]
@@ -44,13 +44,13 @@ def is_turn(web, plan, value):
 
 def gain(plan, turn):
     """How many pairs more a plan has when it is turned."""
-    steps = _pairs_of(turn)
+    steps = steps_of(turn)
     return len(steps) - 2 * len([pair for pair in steps if pair in plan])
 
 
 def turned_pairs(plan, turn):
     """The plan with the pairs of a turn that it does not have in the place of those that it has."""
-    steps = _pairs_of(turn)
+    steps = steps_of(turn)
     kept = [pair for pair in plan if pair not in steps]
     return tuple(sorted(kept + [pair for pair in steps if pair not in plan]))
 

@@ -31,6 +31,10 @@ ODD_VALUES = [
 ]
 
 
+WORDS = ("way", "ring", "served", "barred", "chain", "friend", "giver", "none", "who", "prices", "all", "some", "ask",
+         "over")
+
+
 def near_values(value):
     """Values that differ from a nested tuple of numbers and words in one place."""
     if isinstance(value, tuple):
@@ -53,7 +57,7 @@ def near_values(value):
     elif isinstance(value, int):
         yield from (value + 1, value - 1, value + 60, -value, float(value), bool(value), None, str(value), (value,), 0)
     elif isinstance(value, str):
-        yield from (value + "x", value[:-1], value.upper(), "", None, 0, (value,), "way", "ring", "served", "barred")
+        yield from (value + "x", value[:-1], value.upper(), "", None, 0, (value,)) + WORDS
     else:
         yield None
 
@@ -105,6 +109,11 @@ def all_plans(web):
     for pair in web[1]:
         plans.extend([plan + (pair,) for plan in plans if not set(pair) & {p for q in plan for p in q}])
     return plans
+
+
+def is_one_of(value, things):
+    """Whether a value is one of some things, of the same kinds throughout: True is not 1, a list no tuple."""
+    return repr(value) in {repr(thing) for thing in things}
 
 
 def people_in(plan):

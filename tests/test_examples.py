@@ -4,20 +4,29 @@ import unittest
 
 from givesifgets.barriers import odd_parts, spare_number
 from givesifgets.bases import is_base, most_of, rivals
+from givesifgets.changes import pair_news, person_gone
 from givesifgets.dockets import is_docket, renamed_docket
 from givesifgets.dockettexts import docket_text
+from givesifgets.hiding import less
 from givesifgets.kept import kept_lot, kept_plan, places
 from givesifgets.keptpapers import beginnings, is_kept_paper
 from givesifgets.lotbarriers import closed_parts, is_lot_paper
+from givesifgets.moves import after_move
+from givesifgets.news import near_plans
+from givesifgets.packs import served_by
+from givesifgets.pieces import pieces_of
 from givesifgets.reading import completed, may_follow, read_docket
 from givesifgets.registry import registry_of, ties_of
 from givesifgets.search import even_way, grown_plan, is_even_way, largest_plan
 from givesifgets.servable import is_servable, taken_in
 from givesifgets.strands import ends, exchanged, growing_ways, strands
 from givesifgets.threeparts import plan_without, three_parts
+from givesifgets.together import gain_together
 from givesifgets.tokens import token_places, tokens_of
 from givesifgets.turns import gain, turned
+from givesifgets.wards import best_apart
 from givesifgets.webs import arcs_of, neighbours, pair_web, renamed_web, without
+from givesifgets.worths import dearest_lot
 
 SEVEN = (7, ((0, 1), (0, 2), (1, 2), (2, 3), (3, 4), (3, 5), (5, 6)))
 
@@ -90,3 +99,21 @@ class Examples(unittest.TestCase):
         self.assertEqual(beginnings(web, order), (0, 1, 2, 2, 3, 4))
         self.assertIs(is_kept_paper(web, order, (((0, 1), (2, 3)), ((4, (1, 3)),))), True)
         self.assertEqual(places(order, (1, 4)), (2, 3))
+        self.assertEqual(dearest_lot(web, (1, 2, 1, 2, 9)), (0, 1, 3, 4))
+        self.assertEqual(after_move(web, order, 4, 1), (4, 2))
+        self.assertIsNone(after_move(web, order, 4, 2))
+
+    def test_chapter_9(self):
+        web, order = (4, ((0, 1), (1, 2))), (0, 1, 2, 3)
+        self.assertEqual(pair_news(web, order, (0, 3)), ("come", (2, 3)))
+        self.assertEqual(pair_news(web, order, (0, 1)), ("instead", 2, 0))
+        self.assertEqual(person_gone(web, order, 0), ("instead", 2))
+        self.assertEqual(near_plans(web, less(web, ((0, 1),)), order), (((0, 1),), ((1, 2),)))
+        self.assertEqual(gain_together(web, order, (1, 2), 9), ((1, 2),))
+        self.assertEqual(best_apart(web, order, (1, 2), 9), (2, ((1, 2),)))
+
+    def test_chapter_10_rings_of_pieces(self):
+        """If the only pieces are these rings, 0, 2, 3 can be served, and 1 to 4, but not 0 with 1 or 4."""
+        arcs = (5, ((0, 2), (1, 2), (2, 1), (2, 3), (3, 0), (3, 4), (4, 3)), ())
+        self.assertEqual(pieces_of(arcs, (3, 1)), (("ring", (0, 2, 3)), ("ring", (1, 2)), ("ring", (3, 4))))
+        self.assertEqual(served_by((("ring", (1, 2)), ("ring", (3, 4)))), (1, 2, 3, 4))

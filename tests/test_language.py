@@ -40,6 +40,21 @@ INTERFACE = {
     "kept": {"kept_lot": "web, order", "kept_plan": "web, order", "places": "order, lot",
              "is_earlier": "order, one, other"},
     "keptpapers": {"kept_paper": "web, order", "is_kept_paper": "web, order, value", "beginnings": "web, order"},
+    "worths": {"worth_of": "lot, worths", "falls_along": "order, worths", "order_of_worths": "worths",
+               "dearest_lot": "web, worths"},
+    "moves": {"moved_ahead": "order, person, place", "after_move": "web, order, person, place"},
+    "hiding": {"pairs_at": "web, lot", "less": "web, pairs", "plan_beside": "web, order, pairs"},
+    "news": {"changed_pairs": "web, other", "come_and_gone": "web, other, order", "near_plans": "web, other, order",
+             "are_near_plans": "web, other, order, value"},
+    "changes": {"pair_turned": "web, pair", "pair_news": "web, order, pair", "person_gone": "web, order, person"},
+    "together": {"tellings": "web, lot, most", "kept_telling": "web, order, lot, telling",
+                 "gain_together": "web, order, lot, most"},
+    "wards": {"apart": "web, order, pairs, inside", "best_apart": "web, order, ward, most"},
+    "pieces": {"is_piece": "arcs, limits, value", "pieces_of": "arcs, limits", "source_of": "piece, person",
+               "sources_of": "arcs, person"},
+    "packs": {"is_pack": "arcs, limits, value", "served_by": "pack", "weights_by": "worths, order",
+              "weight_of": "weights, lot"},
+    "shares": {"shares_of": "arcs, limits, weights", "are_shares": "arcs, limits, weights, value"},
 }
 
 GOOD = '"""A file."""\n\n\n'
