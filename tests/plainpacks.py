@@ -11,6 +11,13 @@ def drawn_arcs(rng, n, share, givers=0, reach=0.4):
     return (n, arcs, tuple(tuple(p for p in range(n) if rng.random() < reach) for _ in range(givers)))
 
 
+def both_ways(rng, n, share, givers=0):
+    """Drawn arcs of which each stands with the one back: rings of two that close odd rings."""
+    pairs = [pair for pair in itertools.combinations(range(n), 2) if rng.random() < share]
+    lots = tuple(tuple(p for p in range(n) if rng.random() < 0.3) for _ in range(givers))
+    return (n, tuple(sorted(pairs + [(v, u) for u, v in pairs])), lots)
+
+
 def whole_arcs(n, givers=0):
     return (n, tuple(itertools.permutations(range(n), 2)), (tuple(range(n)),) * givers)
 

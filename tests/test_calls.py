@@ -17,19 +17,23 @@ SAMPLES = {
     "friends": [[0, 1], (1, None)], "value": PLAN, "web": WEB, "n": 7, "names": (3, 0, 1, 2, 6, 4, 5), "lot": (0, 1, 4),
     "text": docket_text(DOCKET), "docket": DOCKET, "plan": PLAN, "turn": ("way", (2, 1, 0)), "one": PLAN,
     "other": ((0, 1), (2, 3), (5, 6)), "taken": (3,), "base": (0, 1, 2, 3, 5, 6), "order": (6, 5, 4, 3, 2, 1, 0),
-    "worths": (0, 3, 3, 1, 10 ** 30, 0, 2), "place": 1, "pairs": ((0, 1), (3, 4)), "pair": (2, 5), "most": 100,
+    "worths": (0, 3, 3, 1, 10 ** 30, 0, 2), "place": 1, "pairs": ((0, 1), (3, 4)), "pair": (2, 3), "most": 100,
     "telling": ((0, 2),), "inside": ((0, 2),), "ward": (0, 2, 3, 4), "limits": (3, 2),
     "arcs": (4, ((0, 1), (1, 0), (1, 2), (2, 0), (2, 3), (3, 2)), ((0, 3), (2,))),
     "piece": ("chain", 1, (2, 0, 4)), "weights": (1, 1, 0, 10 ** 30),
-    "pack": (("chain", 1, (2,)), ("ring", (0, 1))),
+    "pack": (("chain", 1, (2,)), ("ring", (0, 1))), "case": ((0, ("friend", 1)), (3, ("none",))),
+    "tree": (("who", 2), ("prices", 1, (0, 0, 0, 0), (0, 0))), "falls": (((0, 1), (3, 5)), (2,)), "cover": (0, 2, 3, 5),
+    "good": ((0, 1), (3, 4)), "wishes": ((2, 1, 0), (2, 0, 1), (1, 3, 0, 2), (2, 3)), "deal": (1, 0, 2, 3),
 }
 # what stands for an argument in one function alone
 APART = {
     "has_tie": {"person": 0}, "friends_of": {"person": 0}, "barred_more": {"person": 0},
     "renamed_docket": {"names": (2, 0, 1)}, "exchanged": {"person": 5}, "plan_without": {"person": 2},
     "turned": {"plan": ((1, 2),)}, "taken_in": {"one": (0, 4), "other": (0, 1, 2)},
-    "is_earlier": {"one": (0, 1), "other": (1, 2)}, "pair_turned": {"pair": (2, 3)},
-    "weight_of": {"lot": (0, 1, 3)}, "sources_of": {"person": 2},
+    "is_earlier": {"one": (0, 1), "other": (1, 2)}, "pair_turned": {"pair": (2, 5)},
+    "weight_of": {"lot": (0, 1, 3)}, "sources_of": {"person": 2}, "pack_for": {"lot": (0, 3)},
+    "best_lot": {"worths": (3, 0, 1, 1), "order": (2, 0, 3, 1)}, "repaired": {"plan": ((0, 1), (2, 3), (5, 6))},
+    "prefers": {"person": 2, "one": 3, "other": 2},
     **{name: {"other": (7, ((0, 1), (1, 6), (2, 3), (3, 4), (3, 5)))}
        for name in ("changed_pairs", "come_and_gone", "near_plans", "are_near_plans")},
 }

@@ -7,6 +7,9 @@ from givesifgets.bases import is_base, most_of, rivals
 from givesifgets.changes import pair_news, person_gone
 from givesifgets.dockets import is_docket, renamed_docket
 from givesifgets.dockettexts import docket_text
+from givesifgets.falls import left_web
+from givesifgets.fates import fate, needed_pairs
+from givesifgets.gaining import gaining, is_gaining
 from givesifgets.hiding import less
 from givesifgets.kept import kept_lot, kept_plan, places
 from givesifgets.keptpapers import beginnings, is_kept_paper
@@ -19,10 +22,14 @@ from givesifgets.reading import completed, may_follow, read_docket
 from givesifgets.registry import registry_of, ties_of
 from givesifgets.search import even_way, grown_plan, is_even_way, largest_plan
 from givesifgets.servable import is_servable, taken_in
+from givesifgets.shortlists import first_cover, short_list
 from givesifgets.strands import ends, exchanged, growing_ways, strands
 from givesifgets.threeparts import plan_without, three_parts
 from givesifgets.together import gain_together
 from givesifgets.tokens import token_places, tokens_of
+from givesifgets.trading import deal_rings, is_deal, rounds, trade
+from givesifgets.trees import fault_of
+from givesifgets.trials import fewest_tests, missing
 from givesifgets.turns import gain, turned
 from givesifgets.wards import best_apart
 from givesifgets.webs import arcs_of, neighbours, pair_web, renamed_web, without
@@ -111,6 +118,30 @@ class Examples(unittest.TestCase):
         self.assertEqual(near_plans(web, less(web, ((0, 1),)), order), (((0, 1),), ((1, 2),)))
         self.assertEqual(gain_together(web, order, (1, 2), 9), ((1, 2),))
         self.assertEqual(best_apart(web, order, (1, 2), 9), (2, ((1, 2),)))
+
+    def test_chapter_10(self):
+        arcs, pack = (3, ((0, 1), (0, 2), (1, 0), (1, 2), (2, 0), (2, 1)), ()), (("ring", (0, 1)),)
+        ends_of_it = tuple([("prices", 1, row, ()) for row in ((1, 1, 0), (1, 0, 1), (0, 1, 1))])
+        trees = (ends_of_it, (("who", 0),) + ends_of_it)
+        self.assertEqual([fault_of(arcs, (2, 1), (1, 1, 1), pack, tree) for tree in trees], [0, None])
+
+    def test_chapter_11(self):
+        web = (6, ((0, 1), (0, 2), (0, 3), (0, 4), (1, 5)))
+        self.assertEqual(fate(web, (0, 1)), "none")
+        self.assertEqual(needed_pairs(web), ((1, 5),))
+        self.assertEqual(left_web(web, (((0, 4),), (5,)))[1], ((0, 1), (0, 2), (0, 3)))
+        self.assertEqual(first_cover(web), (0, 1))
+        self.assertEqual(short_list(web, (5, 4, 3, 2, 1, 0), (0, 1), 0)[1], ((0, 1), (0, 3), (0, 4), (1, 5)))
+        self.assertEqual((fewest_tests(web, (), 1), fewest_tests(web, (), 5), missing(web, ((0, 2),))), (2, 5, 1))
+
+    def test_chapter_12(self):
+        wishes = ((2, 1, 0), (2, 0, 1), (1, 3, 0, 2), (2, 3))
+        self.assertEqual(rounds(wishes), (((1, 2),), ((0,), (3,))))
+        self.assertEqual(trade(wishes), (0, 2, 1, 3))
+        self.assertEqual(deal_rings((2, 0, 1, 3)), ((0, 1, 2),))
+        self.assertIs(is_deal(wishes, (1, 0, 2, 3)), True)
+        self.assertIs(is_gaining(wishes, (1, 0, 2, 3), ((1, 2), (2, 1))), True)
+        self.assertIsNone(gaining(wishes, trade(wishes)))
 
     def test_chapter_10_rings_of_pieces(self):
         """If the only pieces are these rings, 0, 2, 3 can be served, and 1 to 4, but not 0 with 1 or 4."""

@@ -55,6 +55,20 @@ INTERFACE = {
     "packs": {"is_pack": "arcs, limits, value", "served_by": "pack", "weights_by": "worths, order",
               "weight_of": "weights, lot"},
     "shares": {"shares_of": "arcs, limits, weights", "are_shares": "arcs, limits, weights, value"},
+    "cases": {"is_case": "arcs, value", "fits_case": "case, piece", "keeps": "pack, case"},
+    "trees": {"tree_of": "arcs, limits, weights", "fault_of": "arcs, limits, weights, pack, tree"},
+    "bestpacks": {"best_lot": "arcs, limits, worths, order", "pack_for": "arcs, limits, lot",
+                  "best_keeping": "arcs, limits, weights, case"},
+    "falls": {"are_falls": "web, value", "left_web": "web, falls", "left_plan": "plan, falls",
+              "repaired": "web, plan, falls"},
+    "fates": {"fate": "web, pair", "fate_paper": "web, pair", "is_fate_paper": "web, pair, value",
+              "needed_pairs": "web"},
+    "shortlists": {"is_cover": "web, value", "first_cover": "web", "short_list": "web, order, cover, most"},
+    "trials": {"missing": "web, good", "fewest_tests": "web, good, most", "trial_tree": "web, good, most",
+               "is_trial_tree": "web, good, most, value"},
+    "trading": {"is_deal": "wishes, value", "prefers": "wishes, person, one, other", "deal_rings": "deal",
+                "rounds": "wishes", "trade": "wishes"},
+    "gaining": {"is_gaining": "wishes, deal, value", "gaining": "wishes, deal"},
 }
 
 GOOD = '"""A file."""\n\n\n'
