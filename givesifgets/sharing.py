@@ -60,7 +60,7 @@ class Sharing:
 
     def take(self, column, more):
         """Give a column as great a share as can be, and take it from another one."""
-        steps = [sum([row[at] for at in column]) for row in self.inverse]
+        steps = [sum([line[place] for place in column]) for line in self.inverse]
         leaving = self.first_used_up(steps)
         lead, taken, share = steps[leaving], self.inverse[leaving], self.shares[leaving]
         for at, step in enumerate(steps):

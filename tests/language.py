@@ -354,8 +354,10 @@ class Checker:
     def look_at_comprehension(self, node):
         stored = {item.id for part in node.generators for item in ast.walk(part.target) if isinstance(item, ast.Name)}
         outer = self.parents[node]
+        nested = False
         while outer is not None and not isinstance(outer, (ast.FunctionDef, ast.Module)):
             if isinstance(outer, (ast.ListComp, ast.SetComp, ast.DictComp)):
+                nested = True
                 further = {item.id for part in outer.generators for item in ast.walk(part.target)
                            if isinstance(item, ast.Name)}
                 for name in stored & further - {"_"}:
@@ -363,6 +365,17 @@ class Checker:
             outer = self.parents.get(outer)
         if isinstance(outer, ast.Module):
             self.say("L3", node, "comprehension at module level")
+        elif nested:
+            for name in stored & self.assigned_in(outer) - {"_"}:
+                self.say("L7", node, name + " in a comprehension within another one, and in its function")
+
+    def assigned_in(self, function):
+        """The names that a function itself assigns, its comprehensions left out."""
+        parts = {name for item in ast.walk(function) if isinstance(item, (ast.ListComp, ast.SetComp, ast.DictComp))
+                 for name in ast.walk(item)}
+        names = {item.id for item in ast.walk(function) if isinstance(item, ast.Name) and item not in parts
+                 and isinstance(item.ctx, ast.Store)}
+        return names | {arg.arg for arg in function.args.args}
 
     def look_at_loop(self, node):
         """Nothing that a loop goes over is changed in it, by its plain name or attribute."""

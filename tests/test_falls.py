@@ -15,15 +15,8 @@ from givesifgets.threeparts import three_parts
 from givesifgets.turns import is_growing, turned
 from tests.plain import (ODD_VALUES, Tried, all_plans, all_values_near, all_webs, drawn_order, drawn_web, drawn_webs,
                          lots_of, only_tuples, people_in, plain_odd_parts)
+from tests.test_hiding import webs_tried
 from tests.test_search import SHAPES
-
-
-def webs_tried(seed, many=40):
-    for n in range(5):
-        yield from all_webs(n)
-    yield from list(all_webs(5))[::11]
-    yield from SHAPES
-    yield from drawn_webs(seed, many, 6, 8)
 
 
 def plain_left(web, falls):

@@ -85,6 +85,7 @@ BROKEN = [
     ("L6", "def f(x):\n    try:\n        return x\n    except:\n        return 1\n"),
     ("L7", "def f(x):\n    return x / 2\n"), ("L7", "def f():\n    return 0.5\n"),
     ("L7", "def f(x):\n    return any(y for y in x)\n"), ("L7", "def f(x):\n    return [[y for y in z] for y in x for z in y]\n"),
+    ("L7", "def f(x):\n    y = [[y for y in z] for z in x]\n    return y\n"),
     ("L8", "def f(x):\n    return type(x)\n"), ("L8", "def f(x):\n    return hash(x)\n"),
     ("L8", "def f(x):\n    return x.__class__\n"), ("L8", "def f(x):\n    return map(len, x)\n"),
     ("L10", "X = '%s'\n" % ("a" * 120)), ("L10", "def f(x):\n" + "    x = x + 1\n" * 40), ("L10", "# a\n" * 400),

@@ -103,6 +103,18 @@ class Together(unittest.TestCase):
                     self.assertIsNone(told)
         self.assertGreater(gained, 100)
 
+    def test_far_too_many(self):
+        """Among all pairs of sixty people nobody could list the plans: so they are refused ahead of that."""
+        web, order = (60, tuple(itertools.combinations(range(60), 2))), tuple(range(60))
+        everyone = tuple(range(60))
+        for most in (0, 1, 30, 5000):
+            self.refused(most, tellings, web, everyone, most)
+            self.refused(most, tellings, web, (7, 8, 9), most)
+            self.refused(most, gain_together, web, order, everyone, most)
+            self.refused(most, best_apart, web, order, everyone, most)
+        self.assertEqual(len(tellings(web, (7,), 60)), 60)
+        self.assertIsNone(gain_together(web, order, (7, 8), 4000))
+
     def test_edges_of_gain(self):
         web, order = (4, ((0, 1), (1, 2))), (0, 1, 2, 3)
         self.assertEqual(gain_together(web, order, (1, 2), 9), ((1, 2),))

@@ -7,6 +7,7 @@ import unittest
 from givesifgets.bestpacks import best_keeping
 from givesifgets.errors import InvalidPlan, Refused
 from givesifgets.packs import is_pack, served_by
+from givesifgets.shares import shares_of
 from givesifgets.trees import fault_of, tree_of
 from tests.plain import ODD_VALUES, all_values_near, near_values, only_tuples
 from tests.plainpacks import (LIMITS, all_packs, both_ways, drawn_arcs, drawn_weights, people_of_pack, plain_fits,
@@ -164,6 +165,23 @@ class Trees(unittest.TestCase):
                 _, tree = self.look(whole_arcs(n), (2, 1), weights)
                 self.assertGreater(len(tree), n)
         self.assertEqual(tree_of((0, (), ()), (2, 1), ()), ((), (("prices", 1, (), ()),)))
+
+    def test_chains_shared_in_parts(self):
+        """Trees that ask, where chains, too, have but part of their people."""
+        rng = random.Random(228)
+        parted = long = 0
+        for _ in range(8000):
+            n, limits = rng.randint(4, 6), rng.choice(((2, 2), (3, 2), (4, 2), (3, 3), (4, 4)))
+            arcs = drawn_arcs(rng, n, rng.choice((0.2, 0.3)), rng.choice((1, 2, 3)), 0.3)
+            weights = drawn_weights(rng, n)
+            d, shares, _, _ = shares_of(arcs, limits, weights)
+            if any(piece[0] == "chain" and share < d for piece, share in shares):
+                pack, tree = self.look(arcs, limits, weights)
+                self.assertIsNone(plain_fault(arcs, weights, pack, tree, plain_pieces(arcs, limits)))
+                parted += 1
+                long += len(tree) > 1
+        self.assertGreater(parted, 100)
+        self.assertGreater(long, 8)
 
     def test_any_pack_as_heavy_has_a_tree(self):
         rng = random.Random(223)
