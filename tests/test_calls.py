@@ -24,6 +24,10 @@ SAMPLES = {
     "pack": (("chain", 1, (2,)), ("ring", (0, 1))), "case": ((0, ("friend", 1)), (3, ("none",))),
     "tree": (("who", 2), ("prices", 1, (0, 0, 0, 0), (0, 0))), "falls": (((0, 1), (3, 5)), (2,)), "cover": (0, 2, 3, 5),
     "good": ((0, 1), (3, 4)), "wishes": ((2, 1, 0), (2, 0, 1), (1, 3, 0, 2), (2, 3)), "deal": (1, 0, 2, 3),
+    "told": ((2, 1, 0), (2, 0, 1), (0, 2), (2, 3)), "calendar": (4, 5, 4), "away": ((0,), (), (1,)), "table": (0, 1, 0, 2),
+    "jobs": ((2, (0, 1, 2)), (3, (0, 1, 2)), (2, (0, 2)), (4, (1, 2))), "many": 2, "days": 2,
+    "world": (2, REGISTRY, (0,), (3,), ((0, 1),), ()), "deed": ("link", (1, 2)), "row": "link 1>2.", "signs": 12,
+    "deeds": [("day",), ("link", (1, 2)), ("away", 2)], "log": ("link 3>0.", "day.", "te"),
 }
 # what stands for an argument in one function alone
 APART = {
@@ -33,7 +37,8 @@ APART = {
     "is_earlier": {"one": (0, 1), "other": (1, 2)}, "pair_turned": {"pair": (2, 5)},
     "weight_of": {"lot": (0, 1, 3)}, "sources_of": {"person": 2}, "pack_for": {"lot": (0, 3)},
     "best_lot": {"worths": (3, 0, 1, 1), "order": (2, 0, 3, 1)}, "repaired": {"plan": ((0, 1), (2, 3), (5, 6))},
-    "prefers": {"person": 2, "one": 3, "other": 2},
+    "prefers": {"person": 2, "one": 3, "other": 2}, "asking": {"person": 2, "other": 0}, "reach": {"person": 2},
+    "ring_deed": {"people": (1, 2)}, "logged": {"log": ("link 3>0.", "day.", "day.")},
     **{name: {"other": (7, ((0, 1), (1, 6), (2, 3), (3, 4), (3, 5)))}
        for name in ("changed_pairs", "come_and_gone", "near_plans", "are_near_plans")},
 }

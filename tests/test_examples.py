@@ -4,15 +4,21 @@ import unittest
 
 from givesifgets.barriers import odd_parts, spare_number
 from givesifgets.bases import is_base, most_of, rivals
+from givesifgets.calendars import is_timetable, jobs_of, left_over
 from givesifgets.changes import pair_news, person_gone
+from givesifgets.deeds import can_do, do_all, do_deed, ring_deed
 from givesifgets.dockets import is_docket, renamed_docket
 from givesifgets.dockettexts import docket_text
 from givesifgets.falls import left_web
 from givesifgets.fates import fate, needed_pairs
+from givesifgets.fronts import fronts
 from givesifgets.gaining import gaining, is_gaining
 from givesifgets.hiding import less
 from givesifgets.kept import kept_lot, kept_plan, places
 from givesifgets.keptpapers import beginnings, is_kept_paper
+from givesifgets.lies import asking, loser, reach
+from givesifgets.logrows import deed_of, row_of
+from givesifgets.logs import cut_log, log_of, mended, read_back
 from givesifgets.lotbarriers import closed_parts, is_lot_paper
 from givesifgets.moves import after_move
 from givesifgets.news import near_plans
@@ -25,6 +31,7 @@ from givesifgets.servable import is_servable, taken_in
 from givesifgets.shortlists import first_cover, short_list
 from givesifgets.strands import ends, exchanged, growing_ways, strands
 from givesifgets.threeparts import plan_without, three_parts
+from givesifgets.timetables import fewest_days, first_timetable, is_delay_paper
 from givesifgets.together import gain_together
 from givesifgets.tokens import token_places, tokens_of
 from givesifgets.trading import deal_rings, is_deal, rounds, trade
@@ -33,6 +40,8 @@ from givesifgets.trials import fewest_tests, missing
 from givesifgets.turns import gain, turned
 from givesifgets.wards import best_apart
 from givesifgets.webs import arcs_of, neighbours, pair_web, renamed_web, without
+from givesifgets.wishprices import are_prices, deal_paper, least_prices
+from givesifgets.worlds import givers_left, links_left, people_left, start_world, web_left
 from givesifgets.worths import dearest_lot
 
 SEVEN = (7, ((0, 1), (0, 2), (1, 2), (2, 3), (3, 4), (3, 5), (5, 6)))
@@ -142,6 +151,43 @@ class Examples(unittest.TestCase):
         self.assertIs(is_deal(wishes, (1, 0, 2, 3)), True)
         self.assertIs(is_gaining(wishes, (1, 0, 2, 3), ((1, 2), (2, 1))), True)
         self.assertIsNone(gaining(wishes, trade(wishes)))
+        self.assertEqual(least_prices(wishes), (0, 1, 1, 0))
+        self.assertEqual(deal_paper(wishes, (1, 0, 2, 3))[0], "gaining")
+        self.assertIs(are_prices(wishes, trade(wishes), (5, 9, 9, 0)), True)
+        self.assertEqual((reach(wishes, 2), reach(wishes, 0)), ((0, 1, 2, 3), (0,)))
+        self.assertEqual((asking(wishes, 2, 0)[2], loser(wishes, asking(wishes, 2, 0))), ((0, 2), 2))
+
+    def test_chapter_13(self):
+        calendar, jobs = (4, 5, 4), ((2, (0, 1, 2)), (3, (0, 1, 2)), (2, (0, 2)), (4, (1, 2)))
+        self.assertEqual((fewest_days(calendar, jobs), first_timetable(calendar, jobs)), (3, (0, 1, 0, 2)))
+        self.assertIs(is_timetable(calendar, jobs, (0, 1, 0, 2)), True)
+        self.assertEqual(fronts(calendar, jobs, 2), (((),), ((0, 2), (1,)), ((0, 1, 2), (0, 2, 3), (1, 3))))
+        self.assertIs(is_delay_paper(calendar, jobs, 2, fronts(calendar, jobs, 2)), True)
+        self.assertEqual(left_over(calendar, jobs, (0, 1, 0, 2), 2), (2, 2, 4))
+        self.assertEqual(jobs_of((9, 9), (("chain", 0, (2,)), ("ring", (0, 1))), ((0,), (), (1,))), ((1, (0,)), (2, (1,))))
+
+    def test_chapter_14(self):
+        registry = registry_of([[0], [0]], [0, 0, 0], [(0, 0), (0, 1), (1, 2), (0, None)], [(0, 2)])
+        world = start_world(registry)
+        self.assertEqual(ring_deed(world, (0, 1)), ("ring", ((0, 1), (1, 0))))
+        self.assertEqual(links_left(world), ((3, 0), (3, 1), (3, 2)))
+        self.assertEqual(people_left(do_deed(world, ("away", 1))), (0, 2))
+        self.assertEqual(web_left(world), (3, ((0, 1), (1, 2))))
+        later = do_all(world, [("link", (3, 2)), ("day",), ("link", (2, 0))])
+        self.assertEqual((later[0], later[2:]), (1, ((0, 2), (2, 3), ((0, 1),), ())))
+        self.assertEqual(givers_left(later), (0,))
+        self.assertIs(can_do(later, ("ring", ((0, 1), (1, 0)))), False)
+
+    def test_chapter_15(self):
+        self.assertEqual(row_of(("ring", ((0, 1), (1, 0)))), "ring 0>1 1>0.")
+        self.assertEqual((deed_of("come - 0."), deed_of("away 04."), deed_of("day")), (("come", None, (0,)), None, None))
+        log = log_of([("link", (3, 2)), ("day",), ("link", (2, 0))])
+        self.assertEqual(log, ("link 3>2.", "day.", "link 2>0."))
+        self.assertEqual(cut_log(log, 18), ("link 3>2.", "day.", "link "))
+        self.assertEqual((mended(cut_log(log, 18)), cut_log(log, 0)), (("link 3>2.", "day."), ()))
+        registry = registry_of([[0], [0]], [0, 0, 0], [(0, 0), (0, 1), (1, 2), (0, None)], [(0, 2)])
+        self.assertEqual(read_back(registry, cut_log(log, 18))[:1], (1,))
+        self.assertEqual((read_back(registry, log)[2:4], read_back(registry, ())[0]), (((0, 2), (2, 3)), 0))
 
     def test_chapter_10_rings_of_pieces(self):
         """If the only pieces are these rings, 0, 2, 3 can be served, and 1 to 4, but not 0 with 1 or 4."""

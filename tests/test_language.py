@@ -69,6 +69,20 @@ INTERFACE = {
     "trading": {"is_deal": "wishes, value", "prefers": "wishes, person, one, other", "deal_rings": "deal",
                 "rounds": "wishes", "trade": "wishes"},
     "gaining": {"is_gaining": "wishes, deal, value", "gaining": "wishes, deal"},
+    "wishprices": {"are_prices": "wishes, deal, value", "least_prices": "wishes", "deal_paper": "wishes, deal"},
+    "lies": {"asking": "wishes, person, other", "reach": "wishes, person", "loser": "wishes, told"},
+    "calendars": {"is_calendar": "value", "are_jobs": "calendar, value", "jobs_of": "calendar, pack, away",
+                  "is_timetable": "calendar, jobs, value", "left_over": "calendar, jobs, table, many"},
+    "fronts": {"are_fronts": "calendar, jobs, value", "fronts": "calendar, jobs, days"},
+    "timetables": {"timetable_within": "calendar, jobs, days", "is_delay_paper": "calendar, jobs, days, value",
+                   "fewest_days": "calendar, jobs", "first_timetable": "calendar, jobs",
+                   "first_papers": "calendar, jobs", "is_first": "calendar, jobs, table, value"},
+    "worlds": {"start_world": "registry", "is_world": "value", "people_left": "world", "web_left": "world",
+               "givers_left": "world", "links_left": "world"},
+    "deeds": {"do_deed": "world, deed", "can_do": "world, deed", "do_all": "world, deeds", "ring_deed": "world, people"},
+    "logrows": {"row_of": "deed", "deed_of": "row"},
+    "logs": {"logged": "world, log, deed", "log_of": "deeds", "cut_log": "log, signs", "mended": "log",
+             "read_back": "registry, log"},
 }
 
 GOOD = '"""A file."""\n\n\n'
