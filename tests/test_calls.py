@@ -12,6 +12,7 @@ REGISTRY = (((0, 1), (1,)), (0, 1, 1), ((0, 1), (1, 0), (1, 2), (0, None)), ((3,
 DOCKET = (REGISTRY, (2, 0, 1), ((1, 0), (0, 2, 1), (2,)))
 WEB = (7, ((0, 1), (0, 2), (1, 2), (2, 3), (3, 4), (3, 5), (5, 6)))
 PLAN = ((0, 1), (3, 4))
+LIFE = ((0, REGISTRY, (), (), (), ()), (0, 1, 2), (), ((0, 1),))
 SAMPLES = {
     "registry": REGISTRY, "friend": 3, "person": 4, "fits": [[0, 1, 0], [1]], "people": [0, 1], "barred": [[0, 0]],
     "friends": [[0, 1], (1, None)], "value": PLAN, "web": WEB, "n": 7, "names": (3, 0, 1, 2, 6, 4, 5), "lot": (0, 1, 4),
@@ -28,6 +29,9 @@ SAMPLES = {
     "jobs": ((2, (0, 1, 2)), (3, (0, 1, 2)), (2, (0, 2)), (4, (1, 2))), "many": 2, "days": 2,
     "world": (2, REGISTRY, (0,), (3,), ((0, 1),), ()), "deed": ("link", (1, 2)), "row": "link 1>2.", "signs": 12,
     "deeds": [("day",), ("link", (1, 2)), ("away", 2)], "log": ("link 3>0.", "day.", "te"),
+    "life": LIFE, "change": ("move", 2, 0), "name": "kept", "question": (WEB, (6, 5, 4, 3, 2, 1, 0)),
+    "changes": [("promise", (0, 1)), ("deed", ("come", 1, (0,))), ("all",), ("deed", ("day",))],
+    "values": [("best", (WEB,), (PLAN, (3,))), ("best", (WEB,), (((0, 1), (2, 3), (5, 6)), (3,)))],
 }
 # what stands for an argument in one function alone
 APART = {
@@ -38,6 +42,8 @@ APART = {
     "weight_of": {"lot": (0, 1, 3)}, "sources_of": {"person": 2}, "pack_for": {"lot": (0, 3)},
     "best_lot": {"worths": (3, 0, 1, 1), "order": (2, 0, 3, 1)}, "repaired": {"plan": ((0, 1), (2, 3), (5, 6))},
     "prefers": {"person": 2, "one": 3, "other": 2}, "asking": {"person": 2, "other": 0}, "reach": {"person": 2},
+    "begun": {"order": (2, 0, 1)}, "helping_ties": {"order": (0, 1, 2), "person": 2},
+    **{name: {"order": (0, 1, 2, 3, 5, 6, 4)} for name in ("why_not", "is_reason", "helping_pairs")},
     "ring_deed": {"people": (1, 2)}, "logged": {"log": ("link 3>0.", "day.", "day.")},
     **{name: {"other": (7, ((0, 1), (1, 6), (2, 3), (3, 4), (3, 5)))}
        for name in ("changed_pairs", "come_and_gone", "near_plans", "are_near_plans")},

@@ -2,6 +2,7 @@
 
 import unittest
 
+from givesifgets.audits import why_not
 from givesifgets.barriers import odd_parts, spare_number
 from givesifgets.bases import is_base, most_of, rivals
 from givesifgets.calendars import is_timetable, jobs_of, left_over
@@ -9,14 +10,20 @@ from givesifgets.changes import pair_news, person_gone
 from givesifgets.deeds import can_do, do_all, do_deed, ring_deed
 from givesifgets.dockets import is_docket, renamed_docket
 from givesifgets.dockettexts import docket_text
+from givesifgets.fairness import is_fair, wronged
 from givesifgets.falls import left_web
 from givesifgets.fates import fate, needed_pairs
 from givesifgets.fronts import fronts
 from givesifgets.gaining import gaining, is_gaining
+from givesifgets.helping import helping_pairs
 from givesifgets.hiding import less
+from givesifgets.houses import House
 from givesifgets.kept import kept_lot, kept_plan, places
 from givesifgets.keptpapers import beginnings, is_kept_paper
 from givesifgets.lies import asking, loser, reach
+from givesifgets.lives import diary, lived
+from givesifgets.living import begun, served_now
+from givesifgets.livingchanges import changed, touched, ways_of
 from givesifgets.logrows import deed_of, row_of
 from givesifgets.logs import cut_log, log_of, mended, read_back
 from givesifgets.lotbarriers import closed_parts, is_lot_paper
@@ -24,6 +31,7 @@ from givesifgets.moves import after_move
 from givesifgets.news import near_plans
 from givesifgets.packs import served_by
 from givesifgets.pieces import pieces_of
+from givesifgets.promises import price
 from givesifgets.reading import completed, may_follow, read_docket
 from givesifgets.registry import registry_of, ties_of
 from givesifgets.search import even_way, grown_plan, is_even_way, largest_plan
@@ -188,6 +196,33 @@ class Examples(unittest.TestCase):
         registry = registry_of([[0], [0]], [0, 0, 0], [(0, 0), (0, 1), (1, 2), (0, None)], [(0, 2)])
         self.assertEqual(read_back(registry, cut_log(log, 18))[:1], (1,))
         self.assertEqual((read_back(registry, log)[2:4], read_back(registry, ())[0]), (((0, 2), (2, 3)), 0))
+
+    def test_chapter_16(self):
+        order = (0, 1, 2, 3, 5, 6, 4)
+        self.assertEqual(why_not(SEVEN, order, 4), (((0, 1, 2), (4,)), (3,)))
+        self.assertEqual(why_not((3, ((0, 1),)), (0, 1, 2), 2), (((2,),), ()))
+        self.assertEqual(helping_pairs(SEVEN, order, 4), ())
+        self.assertEqual(helping_pairs((4, ((0, 1), (1, 2))), (0, 1, 2, 3), 2), ((0, 3), (2, 3)))
+        self.assertEqual(wronged(SEVEN, (4, 0, 1, 2, 3, 5, 6), ((0, 1), (2, 3), (5, 6)))[0], 4)
+        self.assertIs(is_fair(SEVEN, (4, 0, 1, 2, 3, 5, 6), ((0, 1), (3, 4), (5, 6))), True)
+
+    def test_chapter_17(self):
+        registry = registry_of([[1], [0, 2], [1, 3], [2]], [0, 1, 2], [(0, 0), (1, 1), (2, 2)], [])
+        life = begun(start_world(registry), (1, 0, 2))
+        self.assertEqual((life[3], ways_of(life, ("deed", ("away", 0)))), (((0, 1),), (("way", (1, 2)),)))
+        self.assertEqual(touched(life, ("move", 2, 1)), (2,))
+        self.assertEqual(served_now(changed(life, ("move", 2, 1))), (1, 2))
+        row = [("promise", (0, 1)), ("deed", ("come", 3, (3,)))]
+        self.assertEqual(price(lived(life, row)), ((), ()))
+        self.assertEqual(diary(life, row + [("all",)]), (((), ()), ((2, 3), ()), ((), ())))
+
+    def test_chapter_18(self):
+        house = House("kind 0 : 0 ; person 0 : 0 ; person 1 : 0 ; person 2 : 0 ; friend 0 : 0 for 0 ; friend 1 : 0 for 1 ; "
+                      "friend 2 : 0 for 2 ; order : 2 0 1 ; wishes 0 : 0 ; wishes 1 : 1 ; wishes 2 : 2 ;")
+        self.assertEqual((house.plan(), house.reason(1)), (((0, 2),), (((0, 1, 2),), ())))
+        self.assertEqual(house.next_rings(), (("ring", ((0, 2), (2, 0))),))
+        self.assertIsNone(house.do(house.next_rings()[0]))
+        self.assertEqual((house.world()[2:4], house.cut(5), house.world()[2]), (((0, 2), (0, 2)), 1, ()))
 
     def test_chapter_10_rings_of_pieces(self):
         """If the only pieces are these rings, 0, 2, 3 can be served, and 1 to 4, but not 0 with 1 or 4."""

@@ -83,6 +83,26 @@ INTERFACE = {
     "logrows": {"row_of": "deed", "deed_of": "row"},
     "logs": {"logged": "world, log, deed", "log_of": "deeds", "cut_log": "log, signs", "mended": "log",
              "read_back": "registry, log"},
+    "audits": {"why_not": "web, order, person", "is_reason": "web, order, person, value"},
+    "helping": {"helping_pairs": "web, order, person", "helping_ties": "registry, order, person"},
+    "fairness": {"wronged": "web, order, plan", "is_fair": "web, order, plan"},
+    "living": {"begun": "world, order", "is_life": "value", "open_web": "life", "served_now": "life"},
+    "livingchanges": {"is_change": "life, value", "changed": "life, change", "ways_of": "life, change",
+                      "touched": "life, change"},
+    "promises": {"without_promises": "life", "price": "life"},
+    "lives": {"lived": "life, changes", "diary": "life, changes", "seen_web": "life, changes",
+              "there_web": "life, changes", "done_lot": "life, changes"},
+    "houses": {},
+    "sheets": {"sheet_holds": "value", "sheet": "name, question", "wrong_sheets": "values"},
+    "desk": {},
+}
+
+# the arguments of a class and of its methods, "self" left out
+CLASSES = {
+    "houses": {"House": {"__init__": "text", "__len__": "", "registry": "", "order": "", "wishes": "", "world": "", "log": "",
+                         "do": "deed", "cut": "signs", "within": "work", "plan": "", "paper": "", "reason": "person",
+                         "next_rings": ""}},
+    "desk": {"Desk": {"__init__": "", "load": "text", "say": "command"}},
 }
 
 GOOD = '"""A file."""\n\n\n'
@@ -156,3 +176,16 @@ class Interface(unittest.TestCase):
                 tree = ast.parse(source.read())
             defined = {node.name for node in tree.body if isinstance(node, ast.FunctionDef)}
             self.assertLessEqual(set(functions), defined)
+            classes = {node.name: node for node in tree.body if isinstance(node, ast.ClassDef)}
+            for name, methods in CLASSES.get(stem, {}).items():
+                own = {node.name for node in classes[name].body if isinstance(node, ast.FunctionDef)}
+                self.assertLessEqual(set(methods), own)
+
+    def test_classes(self):
+        for stem, classes in CLASSES.items():
+            module = importlib.import_module("givesifgets." + stem)
+            for name, methods in classes.items():
+                self.assertEqual(getattr(module, name).__module__, "givesifgets." + stem)
+                for method, arguments in methods.items():
+                    names = list(inspect.signature(getattr(getattr(module, name), method)).parameters)[1:]
+                    self.assertEqual(", ".join(names), arguments, method)
