@@ -2,10 +2,13 @@
 
 import copy
 import importlib
+import itertools
+import random
 import unittest
 
 from givesifgets.dockettexts import docket_text
-from tests.plain import only_tuples
+from givesifgets.errors import GiveError
+from tests.plain import ODD_VALUES, deep, near_values, only_tuples
 from tests.test_language import INTERFACE
 
 REGISTRY = (((0, 1), (1,)), (0, 1, 1), ((0, 1), (1, 0), (1, 2), (0, None)), ((3, 2),))
@@ -50,6 +53,28 @@ APART = {
 }
 
 
+# the arguments that may be any value, besides those that are called so
+ANY = {
+    "registry_of": "fits, people, friends, barred", "read_docket": "text", "turned": "turn", "exchanged": "person",
+    "is_servable": "lot", "taken_in": "one, other", "is_base": "lot", "rivals": "base, person", "repaired": "plan, falls",
+    "fate": "pair", "short_list": "cover", "fault_of": "pack, tree", "do_deed": "deed", "can_do": "deed", "logged": "deed",
+    "ring_deed": "people", "deed_of": "row", "read_back": "log", "why_not": "person", "is_reason": "person, value",
+    "helping_pairs": "person", "helping_ties": "person", "wronged": "plan", "is_fair": "plan", "changed": "change",
+    "sheet": "name, question", "wrong_sheets": "values",
+}
+
+
+def odd_nested():
+    """Odd values, and these in tuples with one another."""
+    rng = random.Random(80)
+    yield from ODD_VALUES
+    for size in range(1, 7):
+        for _ in range(25):
+            yield tuple(rng.choice(ODD_VALUES) for _ in range(size))
+    yield tuple(itertools.repeat((0, 1), 500))
+    yield deep(50)
+
+
 class Calls(unittest.TestCase):
     def test_every_function(self):
         for stem, functions in INTERFACE.items():
@@ -66,3 +91,33 @@ class Calls(unittest.TestCase):
                 self.assertTrue(only_tuples(told), name)
                 if name.startswith(("is_", "are_", "has_")) or name == "serves":
                     self.assertIs(type(told), bool, name)
+
+    def ask(self, function, named, argument, value):
+        """Any value as an argument: it is answered, or refused by an error of the package that has a number."""
+        before = repr(value)
+        try:
+            told = function(**{**named, argument: value})
+        except GiveError as error:
+            self.assertIs(type(error.at), int)
+            self.assertNotEqual(argument, "value")
+            told = None
+        else:
+            if function.__name__.startswith(("is_", "are_", "can_")) or function.__name__ == "sheet_holds":
+                self.assertIs(type(told), bool, function.__name__)
+        self.assertEqual(repr(value), before)
+
+    def test_any_value(self):
+        """Whatever stands where any value may, nothing is raised but what the document tells."""
+        asked = 0
+        odd = list(odd_nested())
+        for stem, functions in INTERFACE.items():
+            module = importlib.import_module("givesifgets." + stem)
+            for name, arguments in functions.items():
+                samples = {**SAMPLES, **APART.get(name, {})}
+                named = {argument: samples[argument] for argument in arguments.split(", ")}
+                for argument in ANY.get(name, "value" if "value" in named else "").split(", "):
+                    if argument:
+                        asked += 1
+                        for value in odd + list(itertools.islice(near_values(named[argument]), 0, 400, 3)):
+                            self.ask(getattr(module, name), named, argument, value)
+        self.assertGreater(asked, 70)
